@@ -1,0 +1,33 @@
+"""The names and arguments of the interface, each defined in the file under which the document lists it."""
+
+import importlib
+import inspect
+import unittest
+
+INTERFACE = {
+    "fractions": {
+        "fraction": "(n, d)", "added": "(a, b)", "subtracted": "(a, b)", "multiplied": "(a, b)", "divided": "(a, b)",
+        "negated": "(a)", "floor_of": "(a)", "compared": "(a, b)", "digits_of": "(a)", "show_fraction": "(a)",
+        "read_fraction": "(text)",
+    },
+    "points": {
+        "linear": "(point, points)", "affine": "(point, points)", "separating": "(point, points)",
+        "independent_places": "(points)", "fitted": "(points, values)",
+    },
+    "formulas": {"count_parts": "(formula)", "depth_of": "(formula)"},
+    "tokens": {"split_text": "(text)"},
+}
+
+
+class InterfaceTest(unittest.TestCase):
+    def test_functions_stand_in_their_files_with_their_arguments(self):
+        for name, functions in INTERFACE.items():
+            module = importlib.import_module("foldsheet." + name)
+            for function, arguments in functions.items():
+                found = getattr(module, function)
+                self.assertEqual(found.__module__, module.__name__, function)
+                self.assertEqual(str(inspect.signature(found)), arguments, function)
+
+
+if __name__ == "__main__":
+    unittest.main()

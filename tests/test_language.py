@@ -1,0 +1,160 @@
+"""The rules of LANGUAGE.md that can be checked by looking at the code of the package."""
+
+import ast
+import builtins
+import keyword
+import pathlib
+import re
+import unittest
+
+PACKAGE = pathlib.Path(__file__).resolve().parent.parent / "foldsheet"
+FILES = sorted(PACKAGE.rglob("*.py"))
+LIBRARY = {
+    "math": {"gcd", "lcm", "isqrt", "comb", "perm", "factorial"},
+    "itertools": {"product", "combinations", "permutations"},
+    "heapq": {"heappush", "heappop", "heapify", "heapreplace", "heappushpop"},
+}
+BUILTINS = set(
+    "len range enumerate zip min max sum abs sorted reversed int str bool list tuple dict set isinstance ord repr any"
+    " all divmod property classmethod staticmethod super ValueError KeyError IndexError LookupError".split())
+METHODS = set(
+    "append clear copy count endswith extend find get index insert isalnum isalpha isdigit islower isspace isupper"
+    " items join keys ljust lower lstrip partition pop remove replace reverse rfind rjust rpartition rsplit rstrip"
+    " setdefault split splitlines startswith strip update upper values zfill bit_length isascii isdecimal"
+    " removeprefix removesuffix add discard".split())
+BARRED = set(
+    "register mro elements open input law version_info with_traceback add_note attrgetter breakpoint builtins compile"
+    " copyright credits delattr dir eval exec exit gc globals help id importlib license locals methodcaller os quit"
+    " vars sys".split())
+BARRED_WORDS = re.compile(
+    r"\b(type|typing|typing_extensions|enum|Enum|IntEnum|StrEnum|Flag|IntFlag|Generic|Protocol|ABC|ABCMeta|namedtuple"
+    r"|NamedTuple|TypedDict|TYPE_CHECKING|abstractmethod)\b|dataclass|overload|contextmanager")
+STATEMENTS = (ast.Expr, ast.ImportFrom, ast.FunctionDef, ast.ClassDef, ast.Assign)
+NODES = (
+    ast.AsyncFunctionDef, ast.AsyncFor, ast.AsyncWith, ast.Await, ast.Import, ast.Global, ast.Div, ast.MatMult,
+    ast.SetComp,
+)
+
+
+def trees():
+    return [(path.name, ast.parse(path.read_text())) for path in FILES]
+
+
+def walk(kinds):
+    return [(name, node) for name, tree in trees() for node in ast.walk(tree) if isinstance(node, kinds)]
+
+
+def bound_names(node):
+    if isinstance(node, ast.arg):
+        return [node.arg]
+    if isinstance(node, (ast.FunctionDef, ast.ClassDef)):
+        return [node.name]
+    if isinstance(node, ast.Name) and not isinstance(node.ctx, ast.Load):
+        return [node.id]
+    return []
+
+
+class LanguageTest(unittest.TestCase):
+    def test_the_package_holds_nothing_but_its_files(self):
+        for path in PACKAGE.rglob("*"):
+            if "__pycache__" not in path.parts:
+                self.assertEqual(path.suffix, ".py", path)
+                self.assertTrue(re.fullmatch(r"[a-z_]+\.py", path.name), path)
+        self.assertLessEqual(len(FILES), 100)
+
+    def test_sizes_and_characters(self):
+        for path in FILES:
+            lines = path.read_text().split("\n")
+            self.assertLessEqual(len(lines), 400, path)
+            for line in lines:
+                self.assertLessEqual(len(line), 120, (path, line))
+                self.assertTrue(all(" " <= letter <= "~" for letter in line), (path, line))
+        for name, node in walk(ast.FunctionDef):
+            self.assertLessEqual(node.end_lineno - node.lineno + 1, 40, (name, node.name))
+
+    def test_imports(self):
+        defined = {name[:-3]: {each.name for each in tree.body if hasattr(each, "name")} | {
+            target.id for each in tree.body if isinstance(each, ast.Assign) for target in each.targets}
+            for name, tree in trees()}
+        imported = {name[:-3]: set() for name, _ in trees()}
+        for name, node in walk(ast.ImportFrom):
+            words = {each.name for each in node.names}
+            self.assertTrue(all(each.asname is None for each in node.names) and node.level == 0, name)
+            if node.module in LIBRARY:
+                self.assertLessEqual(words, LIBRARY[node.module], name)
+            else:
+                self.assertTrue(node.module.startswith("foldsheet."), (name, node.module))
+                source = node.module.removeprefix("foldsheet.")
+                self.assertLessEqual(words, defined[source], (name, source))
+                imported[name[:-3]].add(source)
+        while imported:
+            free = [name for name, sources in imported.items() if not sources & set(imported)]
+            self.assertTrue(free, f"files import each other: {sorted(imported)}")
+            for name in free:
+                del imported[name]
+
+    def test_module_level(self):
+        for name, tree in trees():
+            for node in tree.body:
+                self.assertIsInstance(node, STATEMENTS, (name, node.lineno))
+                if isinstance(node, ast.Expr):
+                    self.assertIsInstance(node.value, ast.Constant, (name, node.lineno))
+                if isinstance(node, ast.Assign):
+                    self.assertEqual(len(node.targets), 1, (name, node.lineno))
+                    self.assertFalse([each for each in ast.walk(node) if isinstance(each, ast.Call)], name)
+
+    def test_statements_and_operators(self):
+        self.assertEqual([(name, node) for name, node in walk(NODES)], [])
+        for name, node in walk(ast.BinOp):
+            if isinstance(node.op, ast.Pow):
+                self.assertIsInstance(node.right, ast.Constant, (name, node.lineno))
+        for name, node in walk(ast.Compare):
+            for sign, right in zip(node.ops, node.comparators):
+                if isinstance(sign, (ast.Is, ast.IsNot)):
+                    self.assertIn(getattr(right, "value", "other"), (None, True, False), (name, node.lineno))
+        for name, node in walk((ast.FunctionDef, ast.ClassDef)):
+            for decorator in node.decorator_list:
+                self.assertIn(decorator.id, ("property", "classmethod", "staticmethod"), (name, node.name))
+
+    def test_constants(self):
+        for name, node in walk(ast.Constant):
+            self.assertNotIsInstance(node.value, (float, complex), (name, node.lineno))
+        for name, tree in trees():
+            for text in self.strings(tree):
+                self.assertNotIn("%", text, name)
+                self.assertIsNone(BARRED_WORDS.search(text), (name, text))
+
+    def strings(self, tree):
+        comments = [node.value for node in ast.walk(tree) if isinstance(node, ast.Expr)]
+        return [node.value for node in ast.walk(tree)
+                if isinstance(node, ast.Constant) and isinstance(node.value, str) and node not in comments]
+
+    def test_names(self):
+        for name, tree in trees():
+            taken = {each.name for node in tree.body if isinstance(node, ast.ImportFrom) for each in node.names}
+            taken |= {node.name for node in tree.body if isinstance(node, ast.ClassDef)}
+            methods = [each for node in ast.walk(tree) if isinstance(node, ast.ClassDef) for each in node.body]
+            for node in ast.walk(tree):
+                for bound in bound_names(node):
+                    self.assertIsNone(BARRED_WORDS.fullmatch(bound), (name, bound))
+                    self.assertNotIn(bound, BARRED | set(keyword.softkwlist) - {"_"}, name)
+                    if node not in methods:
+                        self.assertFalse(hasattr(builtins, bound), (name, bound))
+                    if not isinstance(node, ast.ClassDef):
+                        self.assertNotIn(bound, taken, name)
+                    self.assertRegex(bound, r"^_?[A-Za-z][A-Za-z0-9_]*$|^_$|^__[a-z]+__$")
+
+    def test_builtins_and_methods(self):
+        own = {node.name for _, node in walk(ast.FunctionDef)}
+        for name, node in walk(ast.Name):
+            if hasattr(builtins, node.id):
+                self.assertIn(node.id, BUILTINS, (name, node.lineno))
+        for name, node in walk(ast.Call):
+            if isinstance(node.func, ast.Attribute):
+                self.assertIn(node.func.attr, METHODS | own, (name, node.lineno))
+        for name, node in walk(ast.Attribute):
+            self.assertNotRegex(node.attr, "^__(?!init__)", (name, node.lineno))
+
+
+if __name__ == "__main__":
+    unittest.main()
