@@ -26,6 +26,12 @@ def parts_of(formula):
     return found
 
 
+def references_in(formula):
+    """Return the list of all references in a formula, those in its conditions included, from left to right."""
+    parts = parts_of(formula)
+    return [part[1] if part[0] in RELATIONS else part for part in parts if part[0] in REFERENCES + RELATIONS]
+
+
 def count_parts(formula):
     """Return the number of parts of a formula."""
     return sum([_own_parts(part) for part in parts_of(formula)])

@@ -16,6 +16,13 @@ INTERFACE = {
     },
     "formulas": {"count_parts": "(formula)", "depth_of": "(formula)"},
     "tokens": {"split_text": "(text)"},
+    "reader": {"read_formula": "(text)"},
+    "printer": {"show_formula": "(formula)"},
+    "completing": {"completion": "(text)"},
+    "definitions": {
+        "carried": "(definition)", "sums_of": "(definition)", "depends": "(definition, formula)",
+    },
+    "sizes": {"size_of": "(definition)"},
 }
 
 
