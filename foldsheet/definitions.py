@@ -1,8 +1,9 @@
 """What a definition says of its columns and sums as a whole [64], [65]."""
 
 from foldsheet.columns import COLUMNS, RESULTS, STATES, all_columns, all_formulas, name_of, named_column
-from foldsheet.dependence import dependent_columns, is_dependent
+from foldsheet.dependence import is_dependent
 from foldsheet.formulas import parts_of, references_in
+from foldsheet.reasons import dependent_columns
 
 
 def carried(definition):

@@ -4,6 +4,9 @@ from math import gcd
 
 from foldsheet.errors import FractionError
 
+ZERO = (0, 1)
+ONE = (1, 1)
+
 
 def fraction(n, d):
     """Return the fraction of n divided by d."""

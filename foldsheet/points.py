@@ -4,18 +4,14 @@ Each question is a system of equations, whose columns are the points that are co
 The columns are dealt with in order, so those that depend on columns before them get the coefficient 0.
 """
 
-from math import gcd, lcm
-
-from foldsheet.fractions import fraction
-
-ZERO = (0, 1)
-ONE = (1, 1)
+from foldsheet.elimination import reduced
+from foldsheet.fractions import ONE, ZERO, fraction
 
 
 def linear(point, points):
     """Return the first coefficients with which the point is a linear combination of the points, or None."""
     many = len(points)
-    rows, pivots = _reduced(_equations(points + (point,)), many)
+    rows, pivots = reduced(points + (point,), many)
     if any([row[many] != 0 for row in rows[len(pivots):]]):
         return None
     coefficients = [ZERO] * many
@@ -26,7 +22,7 @@ def linear(point, points):
 
 def affine(point, points):
     """Return the first coefficients with which the point is an affine combination of the points, or None."""
-    return linear(_with_one(point), tuple([_with_one(each) for each in points]))
+    return linear(with_one(point), tuple([with_one(each) for each in points]))
 
 
 def separating(point, points):
@@ -37,8 +33,7 @@ def separating(point, points):
 
 def independent_places(points):
     """Return the places of the points that are no affine combinations of the points before them."""
-    rows = _equations([_with_one(each) for each in points])
-    return tuple(_reduced(rows, len(points))[1])
+    return tuple(reduced([with_one(each) for each in points], len(points))[1])
 
 
 def fitted(points, values):
@@ -50,52 +45,6 @@ def fitted(points, values):
     return (coefficients[0], coefficients[1:])
 
 
-def _with_one(point):
-    # Coefficients add up to 1 exactly if they also combine these ones.
+def with_one(point):
+    """Return the point with a 1 behind it: what combines such points linearly has coefficients that add up to 1."""
     return point + (ONE,)
-
-
-def _equations(columns):
-    """One row of integers for each place of the columns, in the ratio of their numbers there."""
-    return [_whole(numbers) for numbers in zip(*columns)]
-
-
-def _whole(numbers):
-    common = 1
-    for number in numbers:
-        common = lcm(common, number[1])
-    return _shortened([n * (common // d) for n, d in numbers])
-
-
-def _shortened(row):
-    common = 0
-    for number in row:
-        common = gcd(common, number)
-    if common < 2:
-        return row
-    return [number // common for number in row]
-
-
-def _reduced(rows, many):
-    """The rows in reduced echelon form as to their first columns, so many, and the list of the pivots' columns."""
-    pivots = []
-    for column in range(many):
-        top = len(pivots)
-        usable = [at for at in range(top, len(rows)) if rows[at][column] != 0]
-        if usable:
-            rows = _cleared(rows, top, usable[0], column)
-            pivots.append(column)
-    return rows, pivots
-
-
-def _cleared(rows, top, chosen, column):
-    """The rows with the chosen one moved up to the top, and with zeros in the column of all others."""
-    pivot = rows[chosen]
-    others = [_without(row, pivot, column) for row in rows[:chosen] + rows[chosen + 1:]]
-    return others[:top] + [pivot] + others[top:]
-
-
-def _without(row, pivot, column):
-    if row[column] == 0:
-        return row
-    return _shortened([pivot[column] * mine - row[column] * its for mine, its in zip(row, pivot)])

@@ -4,20 +4,9 @@ import unittest
 
 from foldsheet.definitions import carried, depends, sums_of
 from foldsheet.reader import read_formula
+from tests.making import column, result, state
 
 INPUTS = (("number", "x", 0, 9), ("choice", "k", ("in", "out")))
-
-
-def state(name, text, choices=("in", "out")):
-    return (name, choices, choices[0], read_formula(text))
-
-
-def column(name, text):
-    return (name, (0, 1), read_formula(text))
-
-
-def result(name, text):
-    return (name, read_formula(text))
 
 
 def definition(states=(), columns=(), results=(), inputs=INPUTS):

@@ -23,6 +23,18 @@ INTERFACE = {
         "carried": "(definition)", "sums_of": "(definition)", "depends": "(definition, formula)",
     },
     "sizes": {"size_of": "(definition)"},
+    "rules": {"problems": "(definition)", "first_problem": "(definition)"},
+    "tables": {
+        "start_state": "(definition)", "next_state": "(definition, state, row)", "results_at": "(definition, state)",
+        "state_after": "(definition, table)", "calculated": "(definition, table)",
+    },
+    "measures": {"measures": "(definition, formula, number)"},
+    "needs": {"needs": "(definition)", "joined_needs": "(first, second)"},
+    "testrows": {
+        "test_values": "(inputs, needs)", "each_row": "(values)", "test_rows": "(definition)",
+        "common_test_rows": "(first, second)", "row_weights": "(inputs, needs, row)",
+    },
+    "searching": {"listed_tables": "(definition)", "table_weights": "(definition, tables, table)"},
 }
 
 

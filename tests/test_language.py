@@ -44,6 +44,27 @@ def walk(kinds):
     return [(name, node) for name, tree in trees() for node in ast.walk(tree) if isinstance(node, kinds)]
 
 
+# Names of methods and attributes that values of Python's own have, and those of them that attributes may have.
+OF_VALUES = {name for each in (str, int, list, dict, set, bytes, tuple) for name in dir(each)}
+FREE_ATTRIBUTES = set("count index title find get join lower upper split strip copy add".split())
+AT_ONCE = set("list tuple dict sorted sum any all enumerate zip min max".split())
+PASSING = {"range", "zip", "enumerate", "reversed", "items", "keys", "values"}
+
+
+def called_name(node):
+    """The name of the function or method that is called, or None."""
+    if not isinstance(node, ast.Call):
+        return None
+    return getattr(node.func, "id", getattr(node.func, "attr", None))
+
+
+def iterated_at_once(tree):
+    """All that stands behind the `in` of a loop or a comprehension, or first in a call that goes over it."""
+    found = [node.iter for node in ast.walk(tree) if isinstance(node, (ast.For, ast.comprehension))]
+    return found + [node.args[0] for node in ast.walk(tree) if called_name(node) in AT_ONCE and node.args] + [
+        node for call in ast.walk(tree) if called_name(call) == "zip" for node in call.args]
+
+
 def bound_names(node):
     if isinstance(node, ast.arg):
         return [node.arg]
@@ -154,6 +175,42 @@ class LanguageTest(unittest.TestCase):
                 self.assertIn(node.func.attr, METHODS | own, (name, node.lineno))
         for name, node in walk(ast.Attribute):
             self.assertNotRegex(node.attr, "^__(?!init__)", (name, node.lineno))
+
+    def test_attributes_methods_and_properties(self):
+        methods, properties = set(), set()
+        for name, node in walk(ast.ClassDef):
+            for each in node.body:
+                if isinstance(each, ast.FunctionDef):
+                    shown = [mark.id for mark in each.decorator_list]
+                    (properties if "property" in shown else methods).add(each.name)
+        self.assertEqual(properties & methods, set())
+        stored = [node for name, node in walk(ast.Attribute) if isinstance(node.ctx, ast.Store)]
+        for node in stored:
+            self.assertNotIn(node.attr, OF_VALUES - FREE_ATTRIBUTES, node.lineno)
+            self.assertNotIn(node.attr, properties | methods, node.lineno)
+        for name in (methods | properties) - {"__init__", "__len__"}:
+            self.assertNotIn(name, OF_VALUES, name)
+        known = {node.attr for node in stored} | methods | properties | METHODS
+        for name, node in walk(ast.Attribute):
+            self.assertIn(node.attr, known | {"from_iterable"}, (name, node.lineno))
+
+    def test_what_passes_by_is_iterated_at_once(self):
+        generators = {node.name for name, node in walk(ast.FunctionDef)
+                      if any(isinstance(each, (ast.Yield, ast.YieldFrom)) for each in ast.walk(node))}
+        for name, tree in trees():
+            once = iterated_at_once(tree)
+            for node in ast.walk(tree):
+                if called_name(node) in PASSING | generators:
+                    self.assertIn(node, once, (name, node.lineno))
+
+    def test_loops_do_not_change_what_they_go_over(self):
+        changing = set("append clear extend insert pop remove reverse setdefault update add discard".split())
+        for name, node in walk(ast.For):
+            over = {each.id for each in ast.walk(node.iter) if isinstance(each, ast.Name)}
+            for call in ast.walk(node):
+                if called_name(call) in changing and isinstance(call.func, ast.Attribute):
+                    changed = getattr(call.func.value, "id", None)
+                    self.assertNotIn(changed, over, (name, call.lineno))
 
 
 if __name__ == "__main__":

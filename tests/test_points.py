@@ -5,6 +5,7 @@ import unittest
 from fractions import Fraction
 
 from foldsheet.points import affine, fitted, independent_places, linear, separating
+from tests.model import rank
 
 ZERO = (0, 1)
 
@@ -15,19 +16,6 @@ def point(*numbers):
 
 def exact(numbers):
     return [Fraction(n, d) for n, d in numbers]
-
-
-def rank(rows):
-    """The rank, by elimination from the last place on, so not in the order of the program."""
-    rows = [list(row) for row in rows if any(row)]
-    found = 0
-    while rows:
-        pivot = rows.pop()
-        at = max(k for k, number in enumerate(pivot) if number)
-        rows = [[x - row[at] / pivot[at] * y for x, y in zip(row, pivot)] for row in rows]
-        rows = [row for row in rows if any(row)]
-        found += 1
-    return found
 
 
 def is_combination(target, points):

@@ -2,9 +2,9 @@
 
 import unittest
 
-from foldsheet.reader import read_formula
 from foldsheet.sizes import size_of
-from tests.test_definitions import column, definition, result, state
+from tests.making import column, result, state
+from tests.test_definitions import definition
 
 INPUTS = (("number", "x", 0, 9), ("number", "wide", -1000, 45), ("choice", "k", ("in", "out")))
 
