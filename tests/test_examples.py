@@ -3,6 +3,24 @@
 import unittest
 
 EXAMPLES = r'''
+>>> from foldsheet.reader import read_formula
+>>> from foldsheet.sheets import Sheet
+>>> from foldsheet.folds import calculate, fold
+>>> from foldsheet.contexts import distinguish
+>>> inputs = (("choice", "kind", ("in", "out")), ("number", "amount", 0, 1000))
+>>> balance = ("balance", (0, 1), read_formula('balance[-1] + if(kind = "in", amount, -amount)'))
+>>> results = (("closing", read_formula("last(balance)")), ("volume", read_formula("sum(amount)")))
+>>> sheet = Sheet((inputs, (), (balance,), results))
+>>> short = (("row", ("in", 70)), ("row", ("out", 30)))
+>>> long = (("row", ("out", 5)), ("row", ("in", 60)), ("row", ("out", 25)), ("row", ("in", 10)))
+>>> calculate(sheet, short)
+((((70, 1),), ((40, 1),)), ((40, 1), (100, 1)))
+>>> fold(sheet, short)
+(((40, 1), (100, 1)), ((41, 1), (101, 1)), ((39, 1), (101, 1)))
+>>> fold(sheet, long) == fold(sheet, short)
+True
+>>> distinguish(sheet, (("row", ("in", 40)),), short)
+((), (), 'volume', (40, 1), (100, 1))
 >>> from foldsheet.fractions import fraction, floor_of, digits_of
 >>> fraction(4, -6)
 (-2, 3)
@@ -115,6 +133,47 @@ raises FormulaError(4, 'zero')
 ((), (('go', 1),), (('stop', 0),), (('go', 1), ('stop', 0)))
 >>> table_weights(meter, listed_tables(meter), (("go", 5), ("stop", 7), ("go", 9)))
 ((0, 1), (0, 1), (-4, 1), (5, 1))
+>>> from foldsheet.sheets import Sheet
+>>> gauge = Sheet(meter)
+>>> gauge.beginnings
+((), (('go', 1),), (('stop', 0),))
+>>> gauge.endings
+(((), 'final'), ((('go', 1),), 'total'))
+>>> gauge.points
+(((0, 1), (1, 1)), ((1, 1), (2, 1)), ((0, 1), (0, 1)))
+>>> gauge.coordinates(gauge.point((("go", 5), ("stop", 7))))
+((-5, 1), (5, 1), (1, 1))
+>>> Sheet((inputs, (), (("c", (0, 1), read_formula("c[-1] * c[-1]")),), ()))
+raises DefinitionError(('columns', 0), 'product')
+>>> Sheet((inputs, (), (("c", (10 ** 100, 1), read_formula("c[-1] + amount")),), ()))
+raises TooLarge
+>>> gauge.express(((("go", 1), ("go", 1)), "total"))
+((0, 1), ((-1, 1), (2, 1)))
+>>> from foldsheet.folds import advance, applied, calculate, composed, fold, influence, results_of
+>>> calculate(sheet, (("fold", fold(sheet, short)), ("row", ("in", 5))))
+((None, ((45, 1),)), ((45, 1), (105, 1)))
+>>> advance(sheet, (("row", ("out", 1)),), point=((7, 1), (1, 2)))
+((((6, 1),),), ((6, 1), (3, 2)))
+>>> results_of(sheet, ((7, 1), (1, 2)))
+((7, 1), (1, 2))
+>>> applied(sheet, fold(sheet, short), ((7, 1), (1, 2)))
+((47, 1), (201, 2))
+>>> composed(sheet, fold(sheet, short), fold(sheet, ())) == fold(sheet, short)
+True
+>>> influence(sheet, (("in", 5),), ((), "closing"))
+((0, 1), (((-4, 1), (0, 1)), ((5, 1), (0, 1)), ((0, 1), (0, 1))))
+>>> from foldsheet.contexts import distinguish
+>>> distinguish(gauge, (("row", ("stop", 0)),), ())
+((), (('go', 1),), 'total', (0, 1), (1, 1))
+>>> distinguish(gauge, (("row", ("go", 2)), ("row", ("stop", 3))), (("row", ("go", 2)), ("row", ("stop", 0)), ("row", ("go", 8)))) is None
+True
+>>> from foldsheet.comparing import compare
+>>> plain = Sheet(((("number", "x", 0, 100),), (), (), (("r", read_formula("sum(x)")), ("n", read_formula("sum(1)")))))
+>>> halves = Sheet(((("number", "x", 0, 100),), (), (), (("n", read_formula("sum(3) / 3")), ("r", read_formula("2 * sum(floor(x / 2))")))))
+>>> compare(plain, halves)
+(((1,),), 'r', (1, 1), (0, 1))
+>>> compare(plain, halves, only=("n", "m")) is None
+True
 '''
 
 

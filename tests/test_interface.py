@@ -35,7 +35,20 @@ INTERFACE = {
         "common_test_rows": "(first, second)", "row_weights": "(inputs, needs, row)",
     },
     "searching": {"listed_tables": "(definition)", "table_weights": "(definition, tables, table)"},
+    "endings": {
+        "ending_value": "(definition, table, ending)", "listed_endings": "(definition, tables, candidates)",
+    },
+    "sheets": {"Sheet": "(definition)"},
+    "folds": {
+        "advance": "(sheet, items, *, point=None)", "results_of": "(sheet, point)", "applied": "(sheet, fold, point)",
+        "calculate": "(sheet, items)", "fold": "(sheet, items)", "composed": "(sheet, first, second)",
+        "influence": "(sheet, before, ending)",
+    },
+    "contexts": {"distinguish": "(sheet, first, second)"},
+    "comparing": {"compare": "(first, second, *, only=None)"},
 }
+METHODS = {("sheets", "Sheet"): {"point": "(self, table)", "coordinates": "(self, point)", "express": "(self, ending)",
+                                 "__len__": "(self)"}}
 
 
 class InterfaceTest(unittest.TestCase):
@@ -46,6 +59,12 @@ class InterfaceTest(unittest.TestCase):
                 found = getattr(module, function)
                 self.assertEqual(found.__module__, module.__name__, function)
                 self.assertEqual(str(inspect.signature(found)), arguments, function)
+
+    def test_methods_stand_in_their_classes_with_their_arguments(self):
+        for (name, owner), methods in METHODS.items():
+            found = vars(getattr(importlib.import_module("foldsheet." + name), owner))
+            for method, arguments in methods.items():
+                self.assertEqual(str(inspect.signature(found[method])), arguments, method)
 
 
 if __name__ == "__main__":
