@@ -27,6 +27,12 @@ class PairCalculator:
         other, _, other_cells = self._other.step(other, row)
         return (_joined(one, other), cells, other_cells)
 
+    def behind(self, pair, rows):
+        """Return the pair of states behind some rows."""
+        for row in rows:
+            pair = self.step(pair, row)[0]
+        return pair
+
     def results(self, pair):
         """Return the results by the two definitions."""
         one, other = self._divided(pair)

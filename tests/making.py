@@ -137,7 +137,7 @@ class Maker:
             return (kind, self.result_formula(depth - 1), (3, 2))
         condition = self.condition(1, last=True) if kind == "if" else None
         if kind == "*":
-            return (kind, ("number", dice.choice(SMALL)), self.result_formula(depth - 1))
+            return (kind, ("number", dice.choice(SMALL[:5])), self.result_formula(depth - 1))
         operands = (self.result_formula(depth - 1), self.result_formula(depth - 1))
         if kind == "if" and condition is None:
             return ("+", *operands)

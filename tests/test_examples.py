@@ -174,6 +174,117 @@ True
 (((1,),), 'r', (1, 1), (0, 1))
 >>> compare(plain, halves, only=("n", "m")) is None
 True
+>>> from foldsheet.agreements import agreement, check_agreement
+>>> once = Sheet(((("number", "x", 0, 1),), (), (), (("r", read_formula("sum(x)")),)))
+>>> twice = Sheet(((("number", "x", 0, 1),), (), (), (("r", read_formula("sum(2 * x) / 2")),)))
+>>> agreement(once, twice)
+(((), ((1,),)), ((((1, 1), (0, 1)), ((0, 1), (1, 1))), (((0, 1), (1, 1)), ((-1, 1), (2, 1)))))
+>>> check_agreement(once, twice, ((),), ((((1, 1),), ((1, 1),)),))
+False
+>>> from foldsheet.orders import endings_of, input_dependence, order_dependence
+>>> inputs = (("number", "digit", 0, 9), ("choice", "note", ("x", "y")))
+>>> value = ("value", (0, 1), read_formula("10 * value[-1] + digit"))
+>>> digits = Sheet((inputs, (), (value,), (("number", read_formula("last(value)")), ("total", read_formula("sum(digit)")))))
+>>> order_dependence(digits, "number")
+((), ((0, 'x'), (1, 'x')), (), (1, 1), (10, 1))
+>>> order_dependence(digits, "total") is None
+True
+>>> input_dependence(digits, "number", "digit")
+((), ((0, 'x'), (1, 'x')), (), (0, 1), (1, 1))
+>>> input_dependence(digits, "number", "note") is None
+True
+>>> endings_of(digits, "number")
+(((), 'number'),)
+>>> from foldsheet.equations import equations, violation
+>>> results = (("rows", read_formula("sum(1)")), ("total", read_formula("sum(x)")), ("excess", read_formula("sum(x - 3) + 1")), ("fixed", read_formula("5 + 0 * sum(x)")))
+>>> counts = Sheet(((("number", "x", 0, 100),), (), (), results))
+>>> equations(counts)
+(('excess', (1, 1), (('rows', (-3, 1)), ('total', (1, 1)))), ('fixed', (5, 1), ()))
+>>> violation(counts, (0, 1), ((1, 1), (-1, 1), (0, 1), (0, 1)))
+(((0,),), (1, 1))
+>>> from foldsheet.conversions import conversion, converted, undetermined
+>>> old = Sheet(((("number", "x", 0, 1),), (), (), (("s", read_formula("sum(x)")),)))
+>>> new = Sheet(((("number", "x", 0, 1),), (), (), (("d", read_formula("2 * sum(x) + 3")),)))
+>>> conversion(old, new)
+(((), (((0, 1),), ((1, 1),)), (((3, 1),), ((5, 1),))), (((1,),), (((1, 1),), ((2, 1),)), (((5, 1),), ((7, 1),))))
+>>> converted(conversion(old, new), fold(old, (("row", (1,)), ("row", (0,)), ("row", (1,)))))
+(((7, 1),), ((9, 1),))
+>>> many = Sheet(((("number", "x", 0, 1),), (), (), (("n", read_formula("sum(1)")),)))
+>>> undetermined(conversion(old, many))
+(((), (-1, 1)), (((0,),), (1, 1)))
+>>> from foldsheet.edits import changes, edited, telling_edits
+>>> edited(gauge, (("row", ("go", 1)), ("row", ("go", 2)), ("row", ("go", 3)), ("row", ("go", 4))), ("move", 0, 2))
+(('row', ('go', 2)), ('row', ('go', 3)), ('row', ('go', 1)), ('row', ('go', 4)))
+>>> edited(gauge, (("row", ("go", 1)),), ("fold", 0, 1))
+(('fold', (((1, 1), (2, 1)), ((2, 1), (3, 1)), ((0, 1), (0, 1)))),)
+>>> changes(gauge, (), (("row", ("go", 3)),))
+(('final', (0, 1), (3, 1)),)
+>>> telling_edits(gauge, (("row", ("go", 1)), ("fold", fold(gauge, ()))), (("row", ("go", 1)), ("fold", fold(gauge, (("row", ("stop", 0)),)))))
+(('delete', 0), ('insert', 1, ('go', 1)))
+>>> from foldsheet.books import Book
+>>> book = Book(sheet)
+>>> book.apply(("insert", 0, ("in", 70)))
+(('closing', (0, 1), (70, 1)), ('volume', (0, 1), (70, 1)))
+>>> book.apply(("insert", 1, ("out", 30)))
+(('closing', (70, 1), (40, 1)), ('volume', (70, 1), (100, 1)))
+>>> book.undoable
+2
+>>> book.apply(("fold", 0, 2))
+()
+>>> tuple(book)
+(('fold', (((40, 1), (100, 1)), ((41, 1), (101, 1)), ((39, 1), (101, 1)))),)
+>>> book.undo()
+raises NothingToUndo
+>>> book.apply(("insert", 1, ("in", 5)))
+(('closing', (40, 1), (45, 1)), ('volume', (100, 1), (105, 1)))
+>>> book.table
+((None, ((45, 1),)), ((45, 1), (105, 1)))
+>>> book.undo(steps=1)
+(('closing', (45, 1), (40, 1)), ('volume', (105, 1), (100, 1)))
+>>> received = ("received", read_formula('sum(if(kind = "in", amount, 0))'))
+>>> book.redefine(Sheet((sheet.definition[0], (), (), (received,))))
+>>> tuple(book)
+(('fold', (((70, 1),), ((71, 1),))),)
+>>> Book.loaded(book.saved()).table
+((None,), ((70, 1),))
+>>> from foldsheet.codes import fraction_code, integer_code, natural_code, text_code
+>>> natural_code(300)
+(172, 2)
+>>> integer_code(-3)
+(5,)
+>>> fraction_code((-7, 130))
+(13, 130, 1)
+>>> text_code("a<b")
+(3, 97, 60, 98)
+>>> from foldsheet.writing import definition_code, file_of, item_code
+>>> small = ((("number", "a", 0, 1),), (), (), (("s", read_formula("sum(a)")),))
+>>> file_of(small, (("row", (1,)),))
+(70, 83, 84, 49, 1, 1, 97, 0, 0, 2, 0, 0, 1, 1, 115, 6, 115, 117, 109, 40, 97, 41, 1, 0, 1, 2)
+>>> item_code(small, ("fold", (((1, 2),), ((-3, 1),))))
+(1, 2, 1, 2, 2, 1, 5, 1)
+>>> from foldsheet.loading import read_file
+>>> read_file(file_of(small, (("row", (1,)),))) == (small, (("row", (1,)),))
+True
+>>> read_file((70, 83, 84, 49, 1, 1, 97, 0, 0, 2, 0, 0, 0, 128, 0))
+raises BadFile
+>>> from foldsheet.machines import machine, machine_fold, run_machine
+>>> machine(once)
+((('number', 'x', 0, 1),), ((1, 1, ()),), (((0, 1),), ((1, 1),)), (((0, 1),), ((1, 1),)), (((((0, 1),), ((1, 1),)), ((), ())), ((((1, 1),), ((2, 1),)), ((), ()))))
+>>> machine(once) == machine(twice)
+True
+>>> run_machine(machine(digits), ((4, "x"), (7, "y")))
+((((4, 1),), ((47, 1),)), ((47, 1), (11, 1)))
+>>> machine_fold(machine(digits), ((4, "x"),)) == fold(digits, (("row", (4, "y")),))
+True
+>>> from foldsheet.ledgers import appended, ledger_of, replaced, rows_in, spans, stretch
+>>> ledger_of(once, ((1,), (0,), (1,)))
+((2, (((1, 1),), ((2, 1),)), (1, (((1, 1),), ((2, 1),))), (1, (((0, 1),), ((1, 1),)))), (1, (((1, 1),), ((2, 1),))))
+>>> appended(once, ledger_of(once, ((1,), (0,))), (1,)) == ledger_of(once, ((1,), (0,), (1,)))
+True
+>>> spans(ledger_of(once, ((1,),) * 7), 1, 7)
+((1, 1), (2, 2), (4, 2), (6, 1))
+>>> stretch(once, ledger_of(once, ((1,),) * 7), 1, 7)
+(((6, 1),), ((7, 1),))
 '''
 
 

@@ -3,20 +3,32 @@
 import inspect
 import unittest
 
+from foldsheet.agreements import agreement, check_agreement
+from foldsheet.books import Book
+from foldsheet.codes import fraction_code, integer_code, natural_code, text_code
 from foldsheet.comparing import compare
 from foldsheet.contexts import distinguish
+from foldsheet.conversions import conversion, converted, undetermined
+from foldsheet.edits import changes, edited, telling_edits
 from foldsheet.endings import ending_value, listed_endings
+from foldsheet.equations import equations, violation
 from foldsheet.folds import advance, applied, calculate, composed, fold, influence, results_of
+from foldsheet.fractions import read_fraction, show_fraction
+from foldsheet.ledgers import appended, ledger_of, replaced, rows_in, spans, stretch
+from foldsheet.loading import read_file
+from foldsheet.machines import machine, machine_fold, run_machine
 from foldsheet.measures import measures
 from foldsheet.needs import joined_needs, needs
+from foldsheet.orders import endings_of, input_dependence, order_dependence
 from foldsheet.rules import first_problem, problems
 from foldsheet.searching import listed_tables, table_weights
 from foldsheet.sheets import Sheet
 from foldsheet.tables import calculated, next_state, results_at, start_state, state_after
 from foldsheet.testrows import common_test_rows, each_row, row_weights, test_rows, test_values
+from foldsheet.writing import definition_code, file_of, item_code
 from tests.making import column, number_input, result
 from tests.model import all_cells, exact
-from tests.sheets import CHAIN, GAUGE, LEDGER, as_items
+from tests.sheets import CHAIN, GAUGE, LEDGER, PLAIN, as_items
 
 GROWING = Sheet(((number_input("x", 0, 9),), (), (column("c", "c[-1] * 999999999 / 7 + x"),),
                  (result("end", "last(c)"), result("total", "sum(c) / 3"))))
@@ -61,6 +73,43 @@ class KindsTest(unittest.TestCase):
         ):
             self.assertTrue(is_plain(found), found)
 
+    def test_all_that_the_questions_about_sheets_return_is_plain(self):
+        counting = Sheet((GAUGE.definition[0], (), (), (result("n", "sum(1)"),)))
+        table = (("go", 3), ("stop", 1000))
+        told = conversion(GAUGE, GAUGE)
+        found = agreement(GAUGE, GAUGE)
+        built = machine(GAUGE)
+        ledger = ledger_of(GAUGE, table * 3)
+        for value in (
+            found, agreement(GAUGE, counting), check_agreement(GAUGE, GAUGE, *found),
+            check_agreement(GAUGE, GAUGE, (), ()), endings_of(GAUGE, "final"), order_dependence(GAUGE, "final"),
+            order_dependence(PLAIN, "total"), input_dependence(GAUGE, "final", "kind"),
+            input_dependence(PLAIN, "rows", "x"), equations(PLAIN), violation(PLAIN, (1, 2), ((1, 1),) * 3),
+            violation(PLAIN, (0, 1), ((0, 1),) * 3), told, undetermined(told), undetermined(conversion(GAUGE, counting)),
+            converted(told, GAUGE.points), converted(told, tuple(((9, 7), (1, 3)) for _ in GAUGE.points)),
+            natural_code(300), integer_code(-3), fraction_code((1, 2)), text_code("a"),
+            definition_code(GAUGE.definition), item_code(GAUGE.definition, ("row", table[0])),
+            file_of(GAUGE.definition, as_items(table)), read_file(file_of(GAUGE.definition, as_items(table))),
+            built, run_machine(built, table), machine_fold(built, table), ledger, rows_in(ledger),
+            appended(GAUGE, ledger, table[0]), replaced(GAUGE, ledger, 2, table[1]), spans(ledger, 1, 5),
+            stretch(GAUGE, ledger, 1, 5),
+        ):
+            self.assertTrue(is_plain(value), value)
+
+    def test_all_that_edits_and_books_return_is_plain(self):
+        items = as_items((("go", 3), ("stop", 1000))) + (("fold", GAUGE.points),)
+        other = items[:2] + (("fold", GAUGE.points[::-1]),)
+        book = Book(GAUGE, items=items)
+        for value in (
+            edited(GAUGE, items, ("move", 0, 2)), edited(GAUGE, items, ("fold", 0, 2)), changes(GAUGE, items, ()),
+            telling_edits(GAUGE, items, other), telling_edits(GAUGE, items, items), tuple(book), len(book),
+            book.apply(("insert", 0, ("go", 7))), book.undo(), book.redo(steps=1), book.table, book.undoable,
+            book.redoable, book.saved(), book.redefine(GAUGE), tuple(book.clone()), Book.loaded(book.saved()).table,
+        ):
+            self.assertTrue(is_plain(value), value)
+        self.assertIs(type(book.clone()), Book)
+        self.assertIs(type(book.sheet), Sheet)
+
     def test_only_each_row_returns_a_generator(self):
         self.assertTrue(inspect.isgenerator(each_row(((1,),))))
 
@@ -82,6 +131,27 @@ class BeyondTheBoundsTest(unittest.TestCase):
         self.assertEqual(calculate(GROWING, (("fold", found), ("row", (3,))))[1],
                          all_cells(GROWING.definition, ((3,),) * 25)[1])
         self.assertIsNone(distinguish(GROWING, (("fold", found),), block))
+
+    def test_what_was_told_of_great_numbers_is_passed_on(self):
+        block = as_items(((3,),) * 24)
+        found = fold(GROWING, block)
+        greater = composed(GROWING, found, found)
+        number = greater[0][0]
+        self.assertGreater(number[0], 10 ** 400)
+        self.assertEqual(read_fraction(show_fraction(number)), number)
+        self.assertEqual(converted(conversion(GROWING, GROWING), greater), greater)
+        items = (("fold", found), ("fold", greater))
+        book = Book(GROWING, items=items)
+        book.apply(("fold", 0, 2))
+        self.assertEqual(tuple(book), (("fold", composed(GROWING, found, greater)),))
+        again = Book.loaded(book.saved())
+        self.assertEqual((tuple(again), again.table), (tuple(book), book.table))
+        self.assertEqual(read_file(again.saved()), (GROWING.definition, tuple(book)))
+        context = distinguish(GROWING, items, (("fold", found),))
+        self.assertGreater(context[3][0], 10 ** 400)
+        value = violation(GROWING, number, (number, (0, 1)))[1]
+        self.assertEqual(violation(GROWING, value, ((0, 1),) * 2), ((), value))
+        self.assertEqual(fraction_code(number), integer_code(number[0]) + natural_code(number[1]))
 
     def test_great_states(self):
         state = state_after(GROWING.definition, ((9,),) * 24)

@@ -16,7 +16,7 @@ LIBRARY = {
 }
 BUILTINS = set(
     "len range enumerate zip min max sum abs sorted reversed int str bool list tuple dict set isinstance ord repr any"
-    " all divmod property classmethod staticmethod super ValueError KeyError IndexError LookupError".split())
+    " all divmod iter property classmethod staticmethod super ValueError KeyError IndexError LookupError".split())
 METHODS = set(
     "append clear copy count endswith extend find get index insert isalnum isalpha isdigit islower isspace isupper"
     " items join keys ljust lower lstrip partition pop remove replace reverse rfind rjust rpartition rsplit rstrip"
@@ -188,9 +188,12 @@ class LanguageTest(unittest.TestCase):
         for node in stored:
             self.assertNotIn(node.attr, OF_VALUES - FREE_ATTRIBUTES, node.lineno)
             self.assertNotIn(node.attr, properties | methods, node.lineno)
-        for name in (methods | properties) - {"__init__", "__len__"}:
+        for name in (methods | properties) - {"__init__", "__len__", "__iter__"}:
             self.assertNotIn(name, OF_VALUES, name)
-        known = {node.attr for node in stored} | methods | properties | METHODS
+        values = {target.id for name, node in walk(ast.ClassDef) for each in node.body if isinstance(each, ast.Assign)
+                  for target in each.targets}
+        self.assertEqual(values & (methods | properties | {node.attr for node in stored}), set())
+        known = {node.attr for node in stored} | methods | properties | values | METHODS
         for name, node in walk(ast.Attribute):
             self.assertIn(node.attr, known | {"from_iterable"}, (name, node.lineno))
 
@@ -202,6 +205,28 @@ class LanguageTest(unittest.TestCase):
             for node in ast.walk(tree):
                 if called_name(node) in PASSING | generators:
                     self.assertIn(node, once, (name, node.lineno))
+
+    def test_iterating_over_objects(self):
+        """An object that is iterated over gives what an attribute gives, in one statement."""
+        given = []
+        for name, node in walk(ast.FunctionDef):
+            if node.name == "__iter__":
+                body = node.body[1:] if isinstance(node.body[0], ast.Expr) else node.body
+                self.assertEqual([type(each) for each in body], [ast.Return], name)
+                self.assertEqual(called_name(body[0].value), "iter")
+                self.assertIsInstance(body[0].value.args[0], ast.Attribute)
+                given.append(body[0].value)
+        self.assertEqual(len([node for name, node in walk(ast.Call) if called_name(node) == "iter"]), len(given))
+        if given:
+            names = {each.name for name, node in walk(ast.ImportFrom) for each in node.names}
+            self.assertEqual(names & LIBRARY["itertools"], set())
+
+    def test_properties_give_what_is_stored(self):
+        for name, node in walk(ast.FunctionDef):
+            if [mark.id for mark in node.decorator_list] == ["property"]:
+                self.assertEqual([type(each) for each in node.body], [ast.Expr, ast.Return], (name, node.name))
+                called = {called_name(each) for each in ast.walk(node)} - {None}
+                self.assertLessEqual(called, {"len"}, (name, node.name))
 
     def test_loops_do_not_change_what_they_go_over(self):
         changing = set("append clear extend insert pop remove reverse setdefault update add discard".split())
