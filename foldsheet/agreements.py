@@ -1,8 +1,8 @@
 """Agreements, by which anyone can check that two sheets agree in all tables [203]."""
 
 from foldsheet.comparing import Comparison
-from foldsheet.frames import StateFrame, combination
 from foldsheet.fractions import ZERO
+from foldsheet.frames import StateFrame, combination
 from foldsheet.points import with_one
 
 
@@ -26,10 +26,10 @@ def check_agreement(first, second, tables, weights, *, only=None):
     pairs = [comparison.calculator.behind(start, table) for table in tables]
     if comparison.differences(tables, pairs):
         return False
-    # Of each table: for each common test row the coefficients and the pair of states that they are to combine to.
-    told = [(coefficients, pair) for pair_before, rows in zip(pairs, weights)
-            for coefficients, pair in zip(rows, _pairs_behind(comparison, pair_before))]
-    return all([_combines(coefficients, pairs, pair) for coefficients, pair in told])
+    # For each table and each common test row behind it the coefficients and the pair that they are to combine to.
+    told = [(coefficients, behind) for pair, of_rows in zip(pairs, weights)
+            for coefficients, behind in zip(of_rows, _pairs_behind(comparison, pair))]
+    return all([_combines(coefficients, pairs, behind) for coefficients, behind in told])
 
 
 def _pairs_behind(comparison, pair):

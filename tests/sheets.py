@@ -28,6 +28,13 @@ PLAIN = Sheet(((number_input("x", 0, 9),), (), (), (result("total", "sum(x)"), r
 ALL = (LEDGER, GAUGE, CHAIN, CLOCK, BLANK, FIXED, HIDDEN, PLAIN)
 
 
+def sheet_of(*parts, states=(), inputs=(number_input("x", 0, 9),)):
+    """A sheet of results, and of number columns, which have first values."""
+    columns = tuple(part for part in parts if len(part) == 3)
+    results = tuple(part for part in parts if len(part) == 2)
+    return Sheet((inputs, states, columns, results))
+
+
 def any_sheet(dice, inputs=None):
     """A sheet of an arbitrary definition."""
     while True:

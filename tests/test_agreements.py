@@ -13,20 +13,13 @@ from foldsheet.testrows import common_test_rows
 from tests import model
 from tests.making import any_fraction, any_table, choice_input, column, number_input, result, state
 from tests.model import exact, is_affine, pair, state_behind
-from tests.sheets import ALL, BLANK, CHAIN, FIXED, GAUGE, LEDGER, PLAIN, any_sheet
+from tests.sheets import ALL, BLANK, CHAIN, FIXED, GAUGE, LEDGER, PLAIN, any_sheet, sheet_of
 
 X = number_input("x", 0, 9)
 BIT = (number_input("x", 0, 1),)
 GREAT = 10 ** 100
 ONE = (1, 1)
 ZERO = (0, 1)
-
-
-def sheet_of(*parts, states=(), inputs=(X,)):
-    """A sheet of results, and of number columns, which have first values."""
-    columns = tuple(part for part in parts if len(part) == 3)
-    results = tuple(part for part in parts if len(part) == 2)
-    return Sheet((inputs, states, columns, results))
 
 
 ONCE = sheet_of(result("r", "sum(x)"), inputs=BIT)

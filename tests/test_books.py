@@ -15,20 +15,13 @@ from foldsheet.writing import file_of
 from tests import files
 from tests.making import any_row, choice_input, column, number_input, result, state
 from tests.model import all_cells
-from tests.sheets import ALL, AMOUNTS, BLANK, FIXED, GAUGE, LEDGER, PLAIN, any_fold, any_sheet, as_items
+from tests.sheets import ALL, AMOUNTS, BLANK, FIXED, GAUGE, LEDGER, PLAIN, any_fold, any_sheet, as_items, sheet_of
 from tests.test_edits import any_edit
 
 X = number_input("x", 0, 9)
 SMALL = (number_input("x", 0, 3), choice_input("k", "a", "b"))
 FOLD = ("fold", fold(LEDGER, as_items((("in", 70), ("out", 30)))))
 GREAT = 10 ** 100
-
-
-def sheet_of(*parts, inputs=(X,), states=()):
-    """A sheet of results, and of number columns, which have first values."""
-    columns = tuple(part for part in parts if len(part) == 3)
-    results = tuple(part for part in parts if len(part) == 2)
-    return Sheet((inputs, states, columns, results))
 
 
 def rows(*amounts):
@@ -44,12 +37,12 @@ class BookTest(unittest.TestCase):
     def check_refused(self, book, error, call):
         """A refused call changes nothing."""
         before = told(book)
-        undone = [each for each in self.steps_back(book)]
+        steps = self.steps_back(book)
         with self.assertRaises(SheetError) as caught:
             call(book)
         self.assertIs(type(caught.exception), error)
         self.assertEqual(told(book), before)
-        self.assertEqual([each for each in self.steps_back(book)], undone)
+        self.assertEqual(self.steps_back(book), steps)
         return caught.exception
 
     def steps_back(self, book):
@@ -199,7 +192,8 @@ class UndoTest(BookTest):
             before, behind = calculate(LEDGER, rows(*range(12))), calculate(LEDGER, rows(*range(12 - steps)))
             self.assertEqual(other.undo(steps=steps), tuple(
                 (name, a, b) for name, a, b in zip(("closing", "volume"), before[1], behind[1])))
-            self.assertEqual((tuple(other), other.undoable, other.redoable), (rows(*range(12 - steps)), 8 - steps, steps))
+            self.assertEqual(tuple(other), rows(*range(12 - steps)))
+            self.assertEqual((other.undoable, other.redoable), (8 - steps, steps))
             for forth in range(1, 21):
                 again = other.clone()
                 if forth > steps:
@@ -636,10 +630,11 @@ class HistoryTest(BookTest):
         """The sheet, and others by which its folds may be converted."""
         inputs, states, columns, results = sheet.definition
         found = [sheet]
-        for told_of in ((states, columns, tuple((name, ("-", formula, ("number", (1, 2)))) for name, formula in results)),
-                        (states, columns, results[:1]), ((), (), ()), (states, columns, results + (result("n", "sum(1)"),))):
+        less = tuple((name, ("-", formula, ("number", (1, 2)))) for name, formula in results)
+        more = results + (result("n", "sum(1)"),)
+        for others in ((states, columns, less), (states, columns, results[:1]), ((), (), ()), (states, columns, more)):
             try:
-                found.append(Sheet((inputs,) + told_of))
+                found.append(Sheet((inputs,) + others))
             except SheetError:
                 pass
         return found

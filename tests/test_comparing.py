@@ -11,17 +11,10 @@ from foldsheet.sheets import Sheet
 from tests import model
 from tests.making import any_row, choice_input, column, number_input, result, state
 from tests.model import all_cells
-from tests.sheets import ALL, BLANK, FIXED, LEDGER, PLAIN, any_sheet
+from tests.sheets import ALL, BLANK, FIXED, LEDGER, PLAIN, any_sheet, sheet_of
 
 X = number_input("x", 0, 9)
 GREAT = 10 ** 100
-
-
-def sheet_of(*parts, states=(), inputs=(X,)):
-    """A sheet of results, and of number columns, which have first values."""
-    columns = tuple(part for part in parts if len(part) == 3)
-    results = tuple(part for part in parts if len(part) == 2)
-    return Sheet((inputs, states, columns, results))
 
 
 def swapped(found):

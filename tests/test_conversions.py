@@ -12,18 +12,11 @@ from foldsheet.testrows import common_test_rows
 from tests import model
 from tests.making import any_fraction, any_row, any_table, choice_input, column, number_input, result
 from tests.model import exact, is_affine, is_linear, pairs, rank
-from tests.sheets import ALL, BLANK, CHAIN, FIXED, GAUGE, LEDGER, PLAIN, any_fold, any_sheet, as_items
+from tests.sheets import ALL, BLANK, CHAIN, FIXED, GAUGE, LEDGER, PLAIN, any_fold, any_sheet, as_items, sheet_of
 
 X = number_input("x", 0, 9)
 BIT = (number_input("x", 0, 1),)
 GREAT = 10 ** 100
-
-
-def sheet_of(*parts, states=(), inputs=(X,)):
-    """A sheet of results, and of number columns, which have first values."""
-    columns = tuple(part for part in parts if len(part) == 3)
-    results = tuple(part for part in parts if len(part) == 2)
-    return Sheet((inputs, states, columns, results))
 
 
 def fold_of(sheet, rows):

@@ -263,7 +263,8 @@ class ChangesTest(unittest.TestCase):
     def test_results_in_the_order_of_the_definition(self):
         self.assertEqual(changes(PLAIN, as_items(((3,),)), as_items(((4,), (5,)))),
                          (("total", (3, 1), (9, 1)), ("rows", (1, 1), (2, 1)), ("twice", (5, 1), (17, 1))))
-        self.assertEqual(changes(LEDGER, rows(1), (FOLD,)), (("closing", (1, 1), (40, 1)), ("volume", (1, 1), (100, 1))))
+        self.assertEqual(changes(LEDGER, rows(1), (FOLD,)),
+                         (("closing", (1, 1), (40, 1)), ("volume", (1, 1), (100, 1))))
 
     def test_equal_values_are_left_out(self):
         self.assertEqual(changes(PLAIN, as_items(((3,),)), as_items(((1,), (2,)))), (("rows", (1, 1), (2, 1)),))

@@ -5,22 +5,14 @@ import unittest
 from fractions import Fraction
 
 from foldsheet.equations import equations, violation
-from foldsheet.sheets import Sheet
 from tests import model
 from tests.making import any_fraction, any_row, column, number_input, result
 from tests.model import exact, is_linear, pair
-from tests.sheets import ALL, BLANK, CHAIN, CLOCK, FIXED, GAUGE, HIDDEN, LEDGER, PLAIN, any_sheet
+from tests.sheets import ALL, BLANK, CHAIN, CLOCK, FIXED, GAUGE, HIDDEN, LEDGER, PLAIN, any_sheet, sheet_of
 
 X = number_input("x", 0, 9)
 ONE = (1, 1)
 ZERO = (0, 1)
-
-
-def sheet_of(*parts, inputs=(X,)):
-    """A sheet of results, and of number columns, which have first values."""
-    columns = tuple(part for part in parts if len(part) == 3)
-    results = tuple(part for part in parts if len(part) == 2)
-    return Sheet((inputs, (), columns, results))
 
 
 def names_of(sheet):

@@ -183,8 +183,8 @@ class TextsTest(ReadingTest):
                 self.assertEqual(told[0][0][2], (chr(code),))
 
     def test_a_choice_twice(self):
-        for choices, fits in ((("x", "X"), True), (("x", "y"), True), (("x", "x"), False), (("x", "y", "z", "x"), False),
-                              (("x", "y", "y"), False)):
+        for choices, fits in ((("x", "X"), True), (("x", "y"), True), (("x", "x"), False), (("x", "y", "y"), False),
+                              (("x", "y", "z", "x"), False)):
             self.check_one(choices, fits, inputs=(choice_input("k", *choices),))
             self.check_one(choices, fits, states=(("m", choices, 0, '"p"'),))
 

@@ -12,16 +12,9 @@ from foldsheet.sheets import Sheet
 from tests import model
 from tests.making import any_row, any_table, choice_input, column, number_input, result, state
 from tests.model import all_cells, exact, pairs
-from tests.sheets import ALL, BLANK, CHAIN, CLOCK, FIXED, GAUGE, HIDDEN, LEDGER, PLAIN, any_sheet, as_items
+from tests.sheets import ALL, BLANK, CHAIN, CLOCK, FIXED, GAUGE, HIDDEN, LEDGER, PLAIN, any_sheet, as_items, sheet_of
 
 X = number_input("x", 0, 9)
-
-
-def sheet_of(*parts, inputs=(X,), states=()):
-    """A sheet of results, and of number columns, which have first values."""
-    columns = tuple(part for part in parts if len(part) == 3)
-    results = tuple(part for part in parts if len(part) == 2)
-    return Sheet((inputs, states, columns, results))
 
 
 def some_sheets(number, many):

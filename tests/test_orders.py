@@ -6,21 +6,12 @@ import unittest
 
 from foldsheet.errors import TooLarge
 from foldsheet.orders import endings_of, input_dependence, order_dependence
-from foldsheet.sheets import Sheet
 from tests import model
 from tests.making import any_row, choice_input, column, number_input, result, state
-from tests.sheets import ALL, BLANK, CHAIN, CLOCK, FIXED, GAUGE, LEDGER, PLAIN, any_sheet
+from tests.sheets import ALL, BLANK, CHAIN, CLOCK, FIXED, GAUGE, LEDGER, PLAIN, any_sheet, sheet_of
 
 SMALL = (number_input("x", 0, 2), choice_input("k", "a", "b"))
-BIT = (number_input("x", 0, 1),)
 GREAT_99 = "1000" + 12 * " * 100000000"
-
-
-def sheet_of(*parts, states=(), inputs=BIT):
-    """A sheet of results, and of number columns, which have first values."""
-    columns = tuple(part for part in parts if len(part) == 3)
-    results = tuple(part for part in parts if len(part) == 2)
-    return Sheet((inputs, states, columns, results))
 
 
 def names_of(sheet):

@@ -154,7 +154,8 @@ class FileTest(unittest.TestCase):
         told = []
         for _ in range(60):
             definition = right_definition(dice, BIT)
-            told.append(file_of(definition, tuple(("row", any_row(dice, definition)) for _ in range(dice.randint(0, 3)))))
+            items = tuple(("row", any_row(dice, definition)) for _ in range(dice.randint(0, 3)))
+            told.append(file_of(definition, items))
         told += [file_of(SMALL, items) for items in ((), (("row", (1,)),), (("fold", ()),), (("row", (1,)),) * 2)]
         for one in told:
             for other in told:
